@@ -1,0 +1,1 @@
+"""Minders: children begun in order, begun again when they fall, put away from the last."""
