@@ -23,12 +23,51 @@ NOT_USED = (ast.Import, ast.With, ast.Match, ast.Delete, ast.Global, ast.Nonloca
             ast.YieldFrom, ast.Await, ast.AsyncFunctionDef, ast.AsyncFor, ast.AsyncWith, ast.Starred, ast.NamedExpr,
             ast.SetComp, ast.DictComp, ast.GeneratorExp, ast.Div, ast.MatMult)
 
+METHODS = set("""
+append clear copy count endswith extend find get index insert isalnum isalpha isdigit islower isspace isupper items
+join keys ljust lower lstrip partition pop remove replace reverse rfind rjust rpartition rsplit rstrip setdefault split
+splitlines startswith strip update upper values zfill bit_length
+""".split())
+
+TWO_UNDERSCORES = {"__init__", "__eq__", "__repr__", "__str__", "__len__"}
+
+
+def parsed(path):
+    return ast.parse(path.read_text(encoding="ascii"))
+
+
+def names_bound_at_the_top(tree):
+    names = []
+    for node in tree.body:
+        if isinstance(node, (ast.FunctionDef, ast.ClassDef)):
+            names.append(node.name)
+        elif isinstance(node, ast.ImportFrom):
+            names.extend(alias.asname or alias.name for alias in node.names)
+        elif isinstance(node, ast.Assign):
+            names.extend(target.id for target in node.targets)
+    return names
+
+
+def names_bound_within(function):
+    for node in ast.walk(function):
+        if isinstance(node, ast.arg):
+            yield node.arg
+        elif isinstance(node, ast.Name) and isinstance(node.ctx, ast.Store):
+            yield node.id
+
 
 class FormTest(unittest.TestCase):
     def each_node(self):
         for path in FILES:
-            for node in ast.walk(ast.parse(path.read_text(encoding="ascii"))):
+            for node in ast.walk(parsed(path)):
                 yield f"{path.name}:{getattr(node, 'lineno', '')}", node
+
+    def each_of(self, kind):
+        return [(place, node) for place, node in self.each_node() if isinstance(node, kind)]
+
+    def method_names(self):
+        return {method.name for place, node in self.each_of(ast.ClassDef)
+                for method in node.body if isinstance(method, ast.FunctionDef)}
 
     def test_only_plain_files_lie_in_the_package(self):
         self.assertIn(PACKAGE / "__init__.py", FILES)
@@ -77,6 +116,83 @@ class FormTest(unittest.TestCase):
                 with self.subTest(place=place):
                     self.assertFalse(node.id.startswith("_"))
                     self.assertTrue(node.id in OWN_NAMES or not hasattr(builtins, node.id))
+
+    def test_names_are_plain(self):
+        for place, node in self.each_node():
+            for part in ("name", "arg", "attr", "asname"):
+                name = getattr(node, part, None)
+                if name is not None and name not in TWO_UNDERSCORES:
+                    with self.subTest(place=place):
+                        self.assertRegex(name, r"\A[A-Za-z][A-Za-z0-9_]*\Z")
+
+    def test_each_name_is_bound_once_at_the_top_and_hidden_nowhere(self):
+        for path in FILES:
+            tree = parsed(path)
+            top = names_bound_at_the_top(tree)
+            self.assertEqual(len(top), len(set(top)), path.name)
+            functions = [node for node in ast.walk(tree) if isinstance(node, (ast.FunctionDef, ast.Lambda))]
+            for function in functions:
+                for name in names_bound_within(function):
+                    with self.subTest(path=path.name, name=name):
+                        self.assertNotIn(name, top)
+                        self.assertFalse(hasattr(builtins, name))
+
+    def test_imports_come_from_the_file_that_defines_the_name(self):
+        drawn = {}
+        for path in FILES:
+            drawn[path.stem] = [node for node in parsed(path).body if isinstance(node, ast.ImportFrom)]
+            for node in drawn[path.stem]:
+                source = parsed(PACKAGE / f"{node.module.partition('.')[2]}.py")
+                defined = names_bound_at_the_top(ast.Module([each for each in source.body
+                                                             if not isinstance(each, ast.ImportFrom)], []))
+                self.assertLessEqual({alias.name for alias in node.names}, set(defined), path.name)
+        # Whatever draws only from files already taken is taken; two that draw from one another never are.
+        taken = set()
+        for each in drawn:
+            taken |= {stem for stem, nodes in drawn.items()
+                      if all(node.module.partition(".")[2] in taken for node in nodes)}
+        self.assertEqual(taken, set(drawn))
+
+    def test_classes_are_plain(self):
+        for place, node in self.each_of(ast.ClassDef):
+            names = [method.name for method in node.body if isinstance(method, ast.FunctionDef)]
+            with self.subTest(place=place):
+                self.assertLessEqual(len(node.bases), 1)
+                self.assertEqual(node.keywords + node.decorator_list, [])
+                self.assertEqual(len(names), len(set(names)))
+                for each in node.body:
+                    self.assertIsInstance(each, (ast.FunctionDef, ast.Pass))
+
+    def test_no_name_is_a_method_and_a_value(self):
+        for place, node in self.each_of(ast.Attribute):
+            if isinstance(node.ctx, ast.Store):
+                self.assertNotIn(node.attr, self.method_names(), place)
+
+    def test_methods_are_own_or_listed(self):
+        for place, node in self.each_of(ast.Call):
+            if isinstance(node.func, ast.Attribute):
+                self.assertIn(node.func.attr, METHODS | self.method_names(), place)
+
+    def test_what_makes_an_object_gives_back_nothing(self):
+        for place, node in self.each_of(ast.FunctionDef):
+            if node.name == "__init__":
+                self.assertFalse(any(isinstance(each, ast.Return) for each in ast.walk(node)), place)
+
+    def test_is_stands_beside_none_true_and_false_alone(self):
+        for place, node in self.each_of(ast.Compare):
+            for sign, beside in zip(node.ops, node.comparators):
+                if isinstance(sign, (ast.Is, ast.IsNot)):
+                    self.assertIn(ast.unparse(beside), ("None", "True", "False"), place)
+
+    def test_exponents_are_written(self):
+        for place, node in self.each_of(ast.BinOp):
+            if isinstance(node.op, ast.Pow):
+                self.assertIn(ast.unparse(node.right), [str(number) for number in range(65)], place)
+
+    def test_no_sign_of_hundredths_in_a_text(self):
+        for place, node in self.each_of(ast.Constant):
+            if isinstance(node.value, str):
+                self.assertNotIn("%", node.value, place)
 
 
 if __name__ == "__main__":
